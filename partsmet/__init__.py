@@ -1,0 +1,1 @@
+"""Partsmet: states of copies that meet, each made of parts."""
