@@ -1,0 +1,54 @@
+"""The examples of the interface, each answer just as printed there."""
+
+import doctest
+import unittest
+
+# One text: names stand for what they were in the last example that gave them.
+EXAMPLES = '''
+>>> from partsmet.kinds import is_finite, is_kind, is_line, is_single, state_count, told_kind
+>>> bag, flag = ("map", ("row", 2)), ("row", 2)
+>>> [is_kind(bag), is_kind(("row", True)), told_kind(("tops", 3, ((1, 2), (0, 1), (1, 2)))), is_line(("tops", 2, [(0, 1)])), is_line(("tops", 2, [])), is_line(("later", flag, ("count",)))]
+[True, False, ('tops', 3, [(0, 1), (1, 2)]), True, False, True]
+>>> [is_single(("map", ("row", 1))), is_finite(bag), is_finite(("above", flag, flag)), state_count(("tops", 3, [(0, 1)])), state_count(("later", flag, ("row", 3))), state_count(("above", flag, ("row", 3)))]
+[True, False, True, 6, 6, 5]
+
+>>> from partsmet.states import all_states, greatest_state, is_state, least_state, told_state
+>>> [least_state(("pair", bag, ("above", flag, flag))), is_state(bag, [("a", 1), ("b", 1)]), is_state(bag, [("a", 0)]), is_state(bag, [("b", 1), ("a", 1)]), told_state(bag, (("a", 1),))]
+[([], ('low', 0)), True, False, False, [('a', 1)]]
+>>> [all_states(("tops", 3, [(0, 1)])), greatest_state(("tops", 3, [(0, 1)])), greatest_state(bag), greatest_state(("above", ("count",), flag)), all_states(("above", flag, ("row", 1)))]
+[[[], [0], [0, 2], [1], [1, 2], [2]], [1, 2], None, ('high', 1), [('high', 0), ('low', 0), ('low', 1)]]
+
+>>> from partsmet.joins import are_beside, is_at_most, join, joined
+>>> names, steps = ("map", ("count",)), ("tops", 3, [(0, 1)])
+>>> later, above = ("later", names, ("count",)), ("above", ("count",), ("row", 2))
+>>> [join(names, [("a", 2)], [("a", 1), ("b", 1)]), join(steps, [0, 2], [1]), join(later, ([("a", 1)], 4), ([("b", 1)], 2)), join(later, ([], 9), ([("b", 1)], 2)), join(above, ("high", 0), ("low", 7)), joined(names, []), is_at_most(steps, [0], [1]), are_beside(later, ([("a", 1)], 4), ([("b", 1)], 2))]
+[[('a', 2), ('b', 1)], [1, 2], ([('a', 1), ('b', 1)], 0), ([('b', 1)], 2), ('high', 0), [], True, True]
+
+>>> from partsmet.parts import is_part, is_part_list, lacked, part_list, thinned
+>>> diamond = ("table", [[0, 1, 2, 3, 4], [1, 1, 4, 4, 4], [2, 4, 2, 4, 4], [3, 4, 4, 3, 4], [4, 4, 4, 4, 4]])
+>>> [part_list(names, [("a", 2), ("b", 1)]), part_list(later, ([("a", 1), ("b", 2)], 0)), part_list(later, ([("a", 1), ("b", 2)], 3)), part_list(above, ("high", 0)), part_list(diamond, 4), is_part(later, ([("a", 1), ("b", 2)], 3)), is_part(diamond, 4)]
+[[[('a', 2)], [('b', 1)]], [([('a', 1)], 0), ([('b', 2)], 0)], [([('a', 1), ('b', 2)], 3)], [('high', 0)], [1, 2], True, False]
+>>> [lacked(names, [("a", 5), ("b", 1)], [("a", 5)]), thinned(diamond, [1, 2, 3]), thinned(names, [[("a", 1)], [], [("a", 2)]]), is_part_list(diamond, 4, (3, 1)), is_part_list(diamond, 4, [1, 2, 3]), is_part_list(names, [], [])]
+[[[('b', 1)]], [2, 3], [[('a', 2)]], True, False, True]
+
+>>> from partsmet.tables import all_lists, has_differences, has_single_lists, is_distributive, is_table, meet, needed, table_difference, table_parts, two_differences, two_lists
+>>> diamond, square = [[0, 1, 2, 3, 4], [1, 1, 4, 4, 4], [2, 4, 2, 4, 4], [3, 4, 4, 3, 4], [4, 4, 4, 4, 4]], [[0, 1, 2, 3], [1, 1, 3, 3], [2, 3, 2, 3], [3, 3, 3, 3]]
+>>> [is_table([[0, 1], [1, 0]]), is_table(square), table_parts(square), needed(square, 3), needed(diamond, 4), all_lists(diamond, 4), all_lists(diamond, 0), two_lists(diamond), two_lists(square), has_single_lists(square)]
+[False, True, [1, 2], [1, 2], [], [[1, 2], [1, 3], [2, 3]], [[]], (4, [1, 2], [1, 3]), None, True]
+
+>>> [meet(diamond, 1, 4), meet(square, 1, 2), is_distributive(diamond), is_distributive(square), has_differences(square), table_difference(square, 3, 1), table_difference(diamond, 4, 1), two_differences(diamond), two_differences(square)]
+[1, 0, False, True, True, 2, None, (1, 2, 1, 3), None]
+'''
+
+
+class Examples(unittest.TestCase):
+    def test_examples(self):
+        test = doctest.DocTestParser().get_doctest(EXAMPLES, {}, "examples", None, 0)
+        self.assertEqual(len(test.examples), EXAMPLES.count(">>>"))
+        report = []
+        result = doctest.DocTestRunner(verbose=False).run(test, out=report.append)
+        self.assertEqual(result.failed, 0, "".join(report))
+
+
+if __name__ == "__main__":
+    unittest.main()

@@ -1,0 +1,73 @@
+"""Each name of the interface is defined in its file, with the parameters as written there."""
+
+import ast
+import importlib
+import inspect
+import pathlib
+import unittest
+
+FOLDER = pathlib.Path(__file__).resolve().parent.parent / "partsmet"
+INTERFACE = {
+    "basics": ["is_integer(value)", "is_count(value)"],
+    "tables": [
+        "is_table(value)",
+        "table_parts(table)",
+        "needed(table, number)",
+        "all_lists(table, number)",
+        "has_single_lists(table)",
+        "two_lists(table)",
+        "meet(table, one, other)",
+        "is_distributive(table)",
+        "has_differences(table)",
+        "table_difference(table, one, other)",
+        "two_differences(table)",
+    ],
+    "kinds": [
+        "is_kind(value)",
+        "told_kind(kind)",
+        "is_single(kind)",
+        "is_line(kind)",
+        "is_finite(kind)",
+        "state_count(kind)",
+    ],
+    "states": [
+        "is_state(kind, value)",
+        "least_state(kind)",
+        "told_state(kind, state)",
+        "greatest_state(kind)",
+        "all_states(kind)",
+    ],
+    "joins": [
+        "join(kind, one, other)",
+        "joined(kind, states)",
+        "is_at_most(kind, one, other)",
+        "are_beside(kind, one, other)",
+    ],
+    "parts": [
+        "is_part(kind, state)",
+        "part_list(kind, state)",
+        "lacked(kind, one, other)",
+        "thinned(kind, states)",
+        "is_part_list(kind, state, value)",
+    ],
+}
+
+
+class Interface(unittest.TestCase):
+    def test_parameters(self):
+        for name, lines in INTERFACE.items():
+            module = importlib.import_module("partsmet." + name)
+            for line in lines:
+                function = getattr(module, line.partition("(")[0])
+                self.assertEqual(function.__name__ + str(inspect.signature(function)), line)
+
+    def test_defined_in_their_files(self):
+        for name, lines in INTERFACE.items():
+            tree = ast.parse((FOLDER / (name + ".py")).read_text())
+            defined = [node.name for node in tree.body if isinstance(node, ast.FunctionDef)]
+            for line in lines:
+                self.assertEqual(defined.count(line.partition("(")[0]), 1, line)
+
+
+if __name__ == "__main__":
+    unittest.main()
