@@ -28,6 +28,13 @@ def is_map_name(value):
     return all("a" <= sign <= "z" for sign in value)
 
 
+def are_map_names(value, most):
+    """Whether the value is a list of at most so many NAMES, none twice."""
+    if not is_list(value) or len(value) > most or not all(is_map_name(name) for name in value):
+        return False
+    return len(set(value)) == len(value)
+
+
 def copied(value):
     """The value with each list and tuple inside it made anew."""
     if isinstance(value, list):

@@ -137,9 +137,11 @@ def finite(kind):
     return word != "count"
 
 
-def count_of(kind):
-    """How many states a finite kind has."""
+def count_of(kind, most=0):
+    """How many states a kind has in which no count is above the most; each map in it is single."""
     word = kind[0]
+    if word == "count":
+        return most + 1
     if word == "row":
         return kind[1]
     if word == "tops":
@@ -148,9 +150,8 @@ def count_of(kind):
         return len(kind[1])
     if word == "map":
         return 1
-    if word == "above":
-        return count_of(kind[1]) + count_of(kind[2])
-    return count_of(kind[1]) * count_of(kind[2])
+    ones, others = count_of(kind[1], most), count_of(kind[2], most)
+    return ones + others if word == "above" else ones * others
 
 
 def count_within(kind, limit):

@@ -6,9 +6,9 @@ are passed. Those below it want a told kind and told states, and check nothing.
 
 from partsmet.basics import copied, is_list
 from partsmet.joins import at_most, joined_of
-from partsmet.kinds import told_kind
-from partsmet.states import checked_state, checked_states, fits, least_of, side_of, state_as_told
-from partsmet.tables import is_part_in, lists_of
+from partsmet.kinds import count_of, told_kind
+from partsmet.states import checked_state, checked_states, fits, least_of, side_of, states_as_told, states_of
+from partsmet.tables import is_part_in, lists_of, parts_in
 
 
 def is_part(kind, state):
@@ -38,13 +38,17 @@ def thinned(kind, states):
 def is_part_list(kind, state, value):
     """Whether the value is a list of the state, in any sequence."""
     told = told_kind(kind)
-    goal = checked_state(told, state)
-    if not is_list(value) or not all(fits(told, each) for each in value):
-        return False
-    return makes_up(told, [state_as_told(told, each) for each in value], goal)
+    return is_list_in(told, checked_state(told, state), value)
 
 
 # ----------------------------------------------------------------------------
+
+
+def is_list_in(kind, goal, value):
+    """Whether any value is a list of the goal, in any sequence."""
+    if not is_list(value) or not all(fits(kind, each) for each in value):
+        return False
+    return makes_up(kind, states_as_told(kind, value), goal)
 
 
 def part(kind, state):
@@ -146,3 +150,45 @@ def makes_up(kind, parts, goal):
     if not all(part(kind, each) for each in parts) or joined_of(kind, parts) != goal:
         return False
     return len(thinned_of(kind, parts)) == len(parts)
+
+
+def shape_count(kind, wide, many):
+    """How many shapes with so many names, counts to many, the kind has; of a finite kind, how many parts."""
+    word = kind[0]
+    if word == "count":
+        return many
+    if word == "row":
+        return kind[1] - 1
+    if word == "tops":
+        return kind[1]
+    if word == "table":
+        return len(parts_in(kind[1]))
+    if word == "map":
+        return wide * shape_count(kind[1], wide, many)
+    firsts, seconds = shape_count(kind[1], wide, many), shape_count(kind[2], wide, many)
+    if word == "later":
+        # Only without seconds may the first side be one of which not all states are counted.
+        return firsts + count_of(kind[1], many) * seconds
+    return firsts + 1 + seconds if word == "above" else firsts + seconds
+
+
+def shapes_of(kind, names, many):
+    """The shapes with these names, counts to many; of a finite kind all parts; some may share lists."""
+    word = kind[0]
+    if word == "count":
+        return list(range(1, many + 1))
+    if word == "row":
+        return list(range(1, kind[1]))
+    if word == "tops":
+        return [[point] for point in range(kind[1])]
+    if word == "table":
+        return parts_in(kind[1])
+    if word == "map":
+        return [[(name, each)] for name in names for each in shapes_of(kind[1], names, many)]
+    firsts, seconds = shapes_of(kind[1], names, many), shapes_of(kind[2], names, many)
+    if word == "above":
+        return [("low", each) for each in firsts] + [("high", each) for each in [least_of(kind[2])] + seconds]
+    found = [(each, least_of(kind[2])) for each in firsts]
+    # Without seconds the first side may have far too many states to be gone through.
+    bases = states_of(kind[1], many) if word == "later" and seconds else [least_of(kind[1])]
+    return found + [(base, each) for base in bases for each in seconds]

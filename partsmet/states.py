@@ -53,11 +53,16 @@ def checked_state(kind, value):
 
 def checked_states(kind, value):
     """The value as a list of told states: InvalidStates unless it is such a list."""
+    if not are_states(kind, value):
+        raise InvalidStates(value)
+    return states_as_told(kind, value)
+
+
+def are_states(kind, value):
+    """Whether any value is a list of states of the kind, of as many as may be passed at once."""
     if not is_list(value) or len(value) > MOST_STATES_PASSED:
-        raise InvalidStates(value)
-    if not all(fits(kind, state) for state in value):
-        raise InvalidStates(value)
-    return [state_as_told(kind, state) for state in value]
+        return False
+    return all(fits(kind, state) for state in value)
 
 
 def fits(kind, value):
@@ -127,9 +132,26 @@ def state_as_told(kind, state):
     return state
 
 
+def states_as_told(kind, states):
+    """A list of states of the kind, each one as told, made anew."""
+    return [state_as_told(kind, state) for state in states]
+
+
 def side_of(kind, word):
     """The kind of the states of an above that begin with this word."""
     return kind[1] if word == "low" else kind[2]
+
+
+def inner_states(kind, state):
+    """What stands directly within a state, as tuples of a kind and a state of it."""
+    word = kind[0]
+    if word == "map":
+        return [(kind[1], inner) for _, inner in state]
+    if word == "above":
+        return [(side_of(kind, state[0]), state[1])]
+    if word in ("pair", "later"):
+        return [(kind[1], state[0]), (kind[2], state[1])]
+    return []
 
 
 def least_of(kind):
@@ -164,9 +186,11 @@ def greatest_of(kind):
     return None
 
 
-def states_of(kind):
-    """All states of a finite kind; some may have lists in common."""
+def states_of(kind, most=0):
+    """All states in which no count is above the most; each map in the kind is single; some may share lists."""
     word = kind[0]
+    if word == "count":
+        return list(range(most + 1))
     if word == "row":
         return list(range(kind[1]))
     if word == "tops":
@@ -175,7 +199,7 @@ def states_of(kind):
         return list(range(len(kind[1])))
     if word == "map":
         return [[]]
-    ones, others = states_of(kind[1]), states_of(kind[2])
+    ones, others = states_of(kind[1], most), states_of(kind[2], most)
     if word == "above":
         return [("low", one) for one in ones] + [("high", other) for other in others]
     return [(one, other) for one in ones for other in others]

@@ -62,6 +62,22 @@ def is_at_most(kind, one, other):
     return one <= other
 
 
+def bounded_states(kind, names, most):
+    """All states with these names and no count above the most, maps of a single one or none of the names."""
+    word = kind[0]
+    if word == "count":
+        return list(range(most + 1))
+    if word == "map":
+        inner = [each for each in bounded_states(kind[1], names, most) if each != least_of(kind[1])]
+        return [[]] + [[(name, each)] for name in names for each in inner]
+    if word not in ("pair", "later", "above"):
+        return states_of(kind)
+    firsts, seconds = (bounded_states(inner, names, most) for inner in kind[1:])
+    if word == "above":
+        return [("low", each) for each in firsts] + [("high", each) for each in seconds]
+    return list(itertools.product(firsts, seconds))
+
+
 class Told:
     """A finite kind with its states, order, joins and parts as the definitions tell them."""
 
@@ -101,3 +117,24 @@ class Told:
         if self.joined(lot) != at:
             return False
         return all(self.joined([each for each in lot if each != part]) != at for part in lot)
+
+    def has_single_lists(self):
+        return all(len(self.lists(at)) == 1 for at in range(len(self.states)))
+
+    def differences(self, one, other):
+        """The places of all differences of the one state over the other one."""
+        return [at for at in range(len(self.states)) if self.order[one][self.joins[at][other]]]
+
+    def least_difference(self, one, other):
+        """The place of the least difference; None without one."""
+        found = self.differences(one, other)
+        least = [at for at in found if all(self.order[at][each] for each in found)]
+        return least[0] if least else None
+
+    def has_least_differences(self):
+        many = range(len(self.states))
+        return all(self.least_difference(one, other) is not None for one in many for other in many)
+
+    def lot(self, at):
+        """The parts that are at most the state, as states."""
+        return [self.states[part] for part in self.parts if self.order[part][at]]

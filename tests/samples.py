@@ -198,6 +198,83 @@ ODD_VALUES = [
     ["a", "b"],
 ]
 
+# Values in the place of a kind that are none.
+WRONG_KINDS = ODD_VALUES + [
+    (),
+    ["count"],
+    ("row", True),
+    ("row", 21),
+    ("tops", 2, [(0, 1), (1, 0)]),
+    ("table", [[0, True], [1, 1]]),
+    ("map", 0),
+    ("map", ("map", ("map", NAMES))),
+    ("pair", FLAG),
+]
+
+# Kinds by their grades, within one another in many ways.
+EVEN_KINDS = ONE_STATE + [
+    ("count",),
+    ("row", 20),
+    STEPS,
+    LOOSE,
+    ("table", SQUARE),
+    ("table", CUBE),
+    ("table", CHAIN),
+    BAG,
+    NAMES,
+    ("map", NAMES),
+    ("map", ("map", NAMES)),
+    ("pair", NAMES, ("tops", 2, [])),
+    ("later", ("count",), NAMES),
+    ("later", ("row", 3), ("table", CUBE)),
+    ("later", FULL, BAG),
+    ("later", ("later", ("count",), ("count",)), BAG),
+    ("later", ("above", ("count",), FLAG), BAG),
+    ("later", ("pair", ("count",), ("row", 1)), STEPS),
+    ("later", ("map", ("row", 1)), BAG),
+    ("later", ("table", CHAIN), NAMES),
+    ("later", BAG, ("row", 1)),
+    ("later", ("tops", 2, []), ("map", ("tops", 0, []))),
+    ("later", ("table", SQUARE), ("table", POINT)),
+    ("above", BAG, NAMES),
+    ("above", ("tops", 2, []), ("pair", BAG, BAG)),
+    ("map", ("pair", FLAG, ("above", ("count",), STEPS))),
+]
+LISTS_KINDS = [
+    ("table", SPANS),
+    ("map", ("table", SPANS)),
+    ("pair", ("table", SPANS), ("count",)),
+    ("pair", ("table", SQUARE), ("table", SPANS)),
+    ("later", ("count",), ("table", SPANS)),
+    ("later", ("table", SPANS), ("row", 1)),
+    ("above", ("table", SPANS), FLAG),
+    ("above", ("table", CHAIN), ("map", ("map", ("table", SPANS)))),
+]
+NEITHER_KINDS = [
+    ("table", DIAMOND),
+    ("table", PENTAGON),
+    ("table", GEMS),
+    ("map", ("table", DIAMOND)),
+    ("pair", ("table", SPANS), ("table", PENTAGON)),
+    ("later", ("tops", 2, []), FLAG),
+    ("later", BAG, FLAG),
+    ("later", NAMES, ("count",)),
+    ("later", ("pair", FLAG, FLAG), ("above", ("row", 1), ("row", 1))),
+    ("later", ("table", SQUARE), ("tops", 1, [])),
+    ("later", ("table", DIAMOND), ("row", 1)),
+    ("later", ("count",), ("table", DIAMOND)),
+    ("later", ("later", FLAG, BAG), FLAG),
+    ("later", ("later", BAG, ("row", 1)), BAG),
+    ("later", ("above", FLAG, BAG), STEPS),
+    ("later", ("above", STEPS, FLAG), STEPS),
+    ("later", ("pair", ("row", 1), BAG), STEPS),
+    ("above", ("table", GEMS), FLAG),
+    ("above", FLAG, ("later", LOOSE, NAMES)),
+    ("map", ("pair", ("count",), ("table", DIAMOND))),
+    ("map", ("pair", ("count",), ("later", STEPS, FLAG))),
+    ("pair", ("above", ("later", STEPS, FLAG), FLAG), ("table", SPANS)),
+]
+
 
 def kinds_with_states():
     """All sample kinds, each with some of its states."""

@@ -38,6 +38,33 @@ EXAMPLES = '''
 
 >>> [meet(diamond, 1, 4), meet(square, 1, 2), is_distributive(diamond), is_distributive(square), has_differences(square), table_difference(square, 3, 1), table_difference(diamond, 4, 1), two_differences(diamond), two_differences(square)]
 [1, 0, False, True, True, 2, None, (1, 2, 1, 3), None]
+
+>>> from partsmet.grades import grade, kind_at, led_out, ways
+>>> diamond = [[0, 1, 2, 3, 4], [1, 1, 4, 4, 4], [2, 4, 2, 4, 4], [3, 4, 4, 3, 4], [4, 4, 4, 4, 4]]
+>>> gems, ahead = ("map", ("pair", ("count",), ("table", diamond))), ("later", ("map", ("row", 2)), ("row", 2))
+>>> [grade(gems), ways(gems), kind_at(gems, ["inner", "first"]), led_out(gems, ["inner", "second"], 4), grade(("later", ("count",), ("map", ("row", 2)))), grade(ahead)]
+['neither', [[], ['inner'], ['inner', 'first'], ['inner', 'second']], ('count',), [('a', (0, 4))], 'differences', 'neither']
+
+>>> from partsmet.culprits import culprit, differences_by, is_culprit, lists_by
+>>> beside = ([], ([("a", 1)], [("b", 1)], 1))
+>>> [is_culprit(ahead, "lists", beside), lists_by(ahead, beside), is_culprit(gems, "lists", (["inner", "second"], (4, [1, 2], [2, 3]))), culprit(("count",), "lists")]
+[True, (([('a', 1), ('b', 1)], 0), [([('a', 1)], 0), ([('b', 1)], 0)], [([('a', 1)], 1), ([('b', 1)], 0)]), True, None]
+>>> [differences_by(ahead, beside), is_culprit(gems, "differences", (["inner", "second"], (1, 2, 1, 3))), is_culprit(gems, "differences", (["inner", "second"], (1, 2, 1, 1)))]
+[(([('a', 1)], 1), ([('a', 1)], 0), ([('a', 1)], 1), ([('b', 1)], 0)), True, False]
+
+>>> from partsmet.differences import difference, is_difference, is_least_difference, lot_distance
+>>> counts, later = ("map", ("count",)), ("later", ("row", 3), ("count",))
+>>> [difference(counts, [("a", 5), ("b", 1)], [("a", 2)]), difference(counts, [("a", 5), ("b", 1)], [("a", 7)]), difference(later, (1, 4), (1, 2)), difference(later, (1, 4), (2, 0))]
+[[('a', 5), ('b', 1)], [('b', 1)], (1, 4), (0, 0)]
+>>> [is_difference(counts, [("a", 5)], [("a", 7)], []), is_least_difference(counts, [("a", 5)], [], [("a", 6)]), lot_distance(("pair", ("row", 4), ("row", 2)), (3, 0), (1, 1)), lot_distance(("later", ("row", 2), ("row", 3)), (1, 0), (0, 1))]
+[True, False, 3, 2]
+
+>>> from partsmet.logs import added, beginnings, forgotten, fresh_log, is_log_of, log_state, needless, part_log
+>>> told = [[("a", 1)], [("a", 3)], [("a", 2), ("b", 2)]]
+>>> [log_state(counts, told), beginnings(counts, told)[:3], needless(counts, told), part_log(counts, told), fresh_log(counts, told)]
+[[('a', 3), ('b', 2)], [[], [('a', 1)], [('a', 3)]], [0], [[('a', 3)], [('b', 2)]], [[('a', 1)], [('a', 3)], [('b', 2)]]]
+>>> [added(counts, [[("a", 3)]], told), forgotten(counts, told, [("a", 2)]), is_log_of(counts, [("a", 3)], told), is_log_of(counts, [], [])]
+[[[('a', 3)], [('b', 2)]], [[('a', 3)], [('a', 2), ('b', 2)]], False, True]
 '''
 
 

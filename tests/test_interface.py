@@ -50,6 +50,29 @@ INTERFACE = {
         "thinned(kind, states)",
         "is_part_list(kind, state, value)",
     ],
+    "grades": ["grade(kind)", "ways(kind)", "kind_at(kind, way)", "led_out(kind, way, state)"],
+    "culprits": [
+        "culprit(kind, word)",
+        "is_culprit(kind, word, value)",
+        "lists_by(kind, value)",
+        "differences_by(kind, value)",
+    ],
+    "differences": [
+        "difference(kind, one, other)",
+        "is_difference(kind, one, other, value)",
+        "is_least_difference(kind, one, other, value)",
+        "lot_distance(kind, one, other)",
+    ],
+    "logs": [
+        "log_state(kind, log)",
+        "beginnings(kind, log)",
+        "needless(kind, log)",
+        "part_log(kind, log)",
+        "fresh_log(kind, log)",
+        "added(kind, log, other)",
+        "forgotten(kind, log, state)",
+        "is_log_of(kind, state, value)",
+    ],
 }
 
 
