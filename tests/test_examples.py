@@ -65,6 +65,31 @@ EXAMPLES = '''
 [[('a', 3), ('b', 2)], [[], [('a', 1)], [('a', 3)]], [0], [[('a', 3)], [('b', 2)]], [[('a', 1)], [('a', 3)], [('b', 2)]]]
 >>> [added(counts, [[("a", 3)]], told), forgotten(counts, told, [("a", 2)]), is_log_of(counts, [("a", 3)], told), is_log_of(counts, [], [])]
 [[[('a', 3)], [('b', 2)]], [[('a', 3)], [('a', 2), ('b', 2)]], False, True]
+
+>>> from partsmet.views import is_view, view_kind, worth
+>>> nest, two = ("map", ("map", ("count",))), [("a", [("x", 2)]), ("b", [("x", 1), ("y", 3)])]
+>>> [view_kind(nest, ("values", ("joined",))), worth(nest, ("joined",), two), worth(nest, ("values", ("joined",)), two), worth(nest, ("then", ("at", "b"), ("at", "y")), two)]
+[('map', ('count',)), [('x', 2), ('y', 3)], [('a', 2), ('b', 3)], 3]
+>>> [worth(("map", ("count",)), ("renamed", [("a", "b"), ("c", "a")]), [("a", 2), ("b", 1), ("c", 5)]), is_view(("later", ("count",), ("count",)), ("second",)), worth(("above", ("count",), ("row", 3)), ("upper",), ("low", 7)), view_kind(("count",), ("both", ("same",), ("same",)))]
+[[('a', 5), ('b', 2)], False, 0, ('pair', ('count',), ('count',))]
+
+>>> from partsmet.shapes import are_one, is_parting, parting, shapes
+>>> [shapes(("map", ("count",)), ["a", "b"], 2), shapes(("later", ("count",), ("row", 2)), [], 1), shapes(("above", ("row", 2), ("count",)), [], 2)]
+[[[('a', 1)], [('a', 2)], [('b', 1)], [('b', 2)]], [(0, 1), (1, 0), (1, 1)], [('high', 0), ('high', 1), ('high', 2), ('low', 1)]]
+>>> [are_one(nest, ("joined",), ("values", ("joined",))), are_one(nest, ("then", ("joined",), ("joined",)), ("then", ("values", ("joined",)), ("joined",))), is_parting(nest, ("joined",), ("values", ("joined",)), [("a", [("b", 1)])]), is_parting(nest, ("joined",), ("values", ("joined",)), [("a", [("a", 1)])]), parting(nest, ("same",), ("some", ["a"])) is None]
+[False, True, True, False, False]
+
+>>> from partsmet.questions import asked, decider, goes_through, is_question, is_two_below, two_below
+>>> tally = ("map", ("count",))
+>>> [asked(tally, (("at", "a"), 2), [("a", 3)]), asked(tally, (("joined",), 4), [("a", 3), ("b", 1)]), is_question(tally, (("at", "a"), -1)), goes_through(tally, (("joined",), 4)), decider(tally, (("joined",), 4)), two_below(tally, (("at", "a"), 0))]
+[True, False, False, True, 0, None]
+>>> [goes_through(tally, (("same",), [("a", 1), ("b", 2)])), decider(tally, (("same",), [("a", 1), ("b", 2)])), is_two_below(tally, (("same",), [("a", 1), ("b", 2)]), ([("a", 1)], [("b", 3)])), is_two_below(tally, (("same",), [("a", 1)]), ([], [("a", 2)]))]
+[False, None, True, False]
+
+>>> from partsmet.orders import kind_parts, lot_count, lot_state, part_lot, part_order, ways_up
+>>> steps = ("pair", ("row", 3), ("row", 2))
+>>> [kind_parts(steps), part_order(steps), lot_count(steps), ways_up(steps), part_lot(steps, (1, 1)), lot_state(steps, [0, 1, 2])]
+[[(0, 1), (1, 0), (2, 0)], [(1, 2)], 6, 3, [0, 1], (2, 1)]
 '''
 
 

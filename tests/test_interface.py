@@ -73,6 +73,29 @@ INTERFACE = {
         "forgotten(kind, log, state)",
         "is_log_of(kind, state, value)",
     ],
+    "views": ["is_view(kind, value)", "view_kind(kind, view)", "worth(kind, view, state)"],
+    "shapes": [
+        "shapes(kind, names, many)",
+        "are_one(kind, view, other)",
+        "parting(kind, view, other)",
+        "is_parting(kind, view, other, value)",
+    ],
+    "questions": [
+        "is_question(kind, value)",
+        "asked(kind, question, state)",
+        "goes_through(kind, question)",
+        "decider(kind, question)",
+        "two_below(kind, question)",
+        "is_two_below(kind, question, value)",
+    ],
+    "orders": [
+        "kind_parts(kind)",
+        "part_order(kind)",
+        "lot_count(kind)",
+        "ways_up(kind)",
+        "part_lot(kind, state)",
+        "lot_state(kind, positions)",
+    ],
 }
 
 
