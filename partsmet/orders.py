@@ -17,19 +17,19 @@ MOST_PARTS = 10
 
 def kind_parts(kind):
     """The sorted list of the parts of the kind."""
-    return copied(parts_in_order(told_kind(kind), MOST_PARTS))
+    return copied(parts_in_order(told_kind(kind)))
 
 
 def part_order(kind):
     """The sorted list of all tuples of two positions of parts, the first part below the second one."""
     told = told_kind(kind)
-    return order_of(told, parts_in_order(told, MOST_PARTS))
+    return order_of(told, parts_in_order(told))
 
 
 def lot_count(kind):
     """How many lower lots the kind has."""
     told = told_kind(kind)
-    check_order(told, MOST_PARTS)
+    check_order(told)
     # Each state is the join of just one lower lot.
     return count_of(told)
 
@@ -37,7 +37,7 @@ def lot_count(kind):
 def ways_up(kind):
     """How many sequences of all parts there are with each part behind all below it."""
     told = told_kind(kind)
-    parts = parts_in_order(told, MOST_PARTS)
+    parts = parts_in_order(told)
     return count_ways(len(parts), order_of(told, parts))
 
 
@@ -45,14 +45,13 @@ def part_lot(kind, state):
     """The rising list of the positions of the parts that are at most the state."""
     told = told_kind(kind)
     goal = checked_state(told, state)
-    parts = parts_in_order(told, MOST_PARTS)
-    return [place for place, each in enumerate(parts) if at_most(told, each, goal)]
+    return lot_of(told, parts_in_order(told), goal)
 
 
 def lot_state(kind, positions):
     """The join of the parts of a lower lot."""
     told = told_kind(kind)
-    parts = parts_in_order(told, MOST_PARTS)
+    parts = parts_in_order(told)
     if not is_lower_lot(len(parts), order_of(told, parts), positions):
         raise InvalidPositions(positions)
     return copied(joined_of(told, [parts[place] for place in positions]))
@@ -61,19 +60,39 @@ def lot_state(kind, positions):
 # ----------------------------------------------------------------------------
 
 
-def check_order(kind, most):
-    """The errors of a kind that is endless, has no least differences, or has more parts than the most."""
+def check_finite_even(kind):
+    """Endless unless the kind is finite, NotEven unless it has least differences."""
     if not finite(kind):
         raise Endless()
     check_even(kind)
+
+
+def check_part_count(kind, most):
+    """TooMany if the finite kind has more parts than the most."""
     if shape_count(kind, 0, 0) > most:
         raise TooMany("parts", most)
 
 
-def parts_in_order(kind, most):
-    """All parts of the kind, sorted; they may share lists."""
-    check_order(kind, most)
+def check_order(kind):
+    """The errors of a kind that is endless, has no least differences, or has too many parts."""
+    check_finite_even(kind)
+    check_part_count(kind, MOST_PARTS)
+
+
+def sorted_parts(kind):
+    """All parts of the finite kind, sorted; they may share lists."""
     return sorted(shapes_of(kind, [], 0))
+
+
+def parts_in_order(kind):
+    """All parts of the kind, sorted, behind the errors of the kind; they may share lists."""
+    check_order(kind)
+    return sorted_parts(kind)
+
+
+def lot_of(kind, parts, state):
+    """The rising list of the positions of those of the parts that are at most the state."""
+    return [place for place, each in enumerate(parts) if at_most(kind, each, state)]
 
 
 def order_of(kind, parts):

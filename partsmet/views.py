@@ -27,6 +27,8 @@ LENGTHS = {
     "both": 3,
     "then": 3,
 }
+# The words of views in which others stand.
+NESTING = ("values", "both", "then")
 # Of which kinds the views of a word are, where not of any.
 SEEN = {
     "at": ("map",),
@@ -70,31 +72,42 @@ def check_view(kind, value):
 
 def is_view_of(kind, value):
     """Whether any value is a view of the kind."""
-    return is_nested_view(kind, value, MOST_DEEP) and views_within(value) <= MOST_VIEWS
+    return is_view_alone(value) and goes_with(kind, value)
+
+
+def is_view_alone(value):
+    """Whether any value is a view by its words, its names and how views stand in it, whatever kind it is of."""
+    return is_nested_view(value, MOST_DEEP) and views_within(value) <= MOST_VIEWS
 
 
 def views_within(view):
     """How many views stand in the view, it counted."""
-    if view[0] not in ("values", "both", "then"):
+    if view[0] not in NESTING:
         return 1
     return 1 + sum([views_within(inner) for inner in view[1:]])
 
 
-def is_nested_view(kind, value, deep):
-    """Whether any value is a view of the kind, nested at most so deep, however many stand in it."""
-    if deep == 0 or not has_view_form(value) or kind[0] not in SEEN.get(value[0], (kind[0],)):
+def is_nested_view(value, deep):
+    """Whether any value is a view by its words and names, nested at most so deep, however many stand in it."""
+    if deep == 0 or not has_view_form(value):
         return False
-    word = value[0]
-    if word == "values":
-        return is_nested_view(kind[1], value[1], deep - 1) and is_kind(kind_seen(kind, value))
-    if word == "both":
-        inner = [is_nested_view(kind, each, deep - 1) for each in value[1:]]
-        return all(inner) and is_kind(kind_seen(kind, value))
-    if word == "then":
-        if not is_nested_view(kind, value[1], deep - 1):
-            return False
-        return is_nested_view(kind_seen(kind, value[1]), value[2], deep - 1)
+    if value[0] in NESTING:
+        return all(is_nested_view(inner, deep - 1) for inner in value[1:])
     return has_view_names(value)
+
+
+def goes_with(kind, view):
+    """Whether what is a view by its words is one of the kind, and tells kinds alone on its way."""
+    word = view[0]
+    if kind[0] not in SEEN.get(word, (kind[0],)):
+        return False
+    if word == "values":
+        return goes_with(kind[1], view[1]) and is_kind(kind_seen(kind, view))
+    if word == "both":
+        return all(goes_with(kind, inner) for inner in view[1:]) and is_kind(kind_seen(kind, view))
+    if word == "then":
+        return goes_with(kind, view[1]) and goes_with(kind_seen(kind, view[1]), view[2])
+    return True
 
 
 def has_view_form(value):
