@@ -315,7 +315,7 @@ def check_refused(case, error, attributes, function, *args, **named):
     case.assertEqual(set(vars(caught.exception)), set(attributes))
     for name, value in attributes.items():
         found = getattr(caught.exception, name)
-        case.assertTrue(same(found, value), (function.__name__, name, found, value))
+        case.assertTrue(same(found, value), (function, name, found, value))
     case.assertTrue(same(ahead[0], args))
     case.assertEqual(ahead[1], named)
 

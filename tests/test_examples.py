@@ -90,6 +90,52 @@ EXAMPLES = '''
 >>> steps = ("pair", ("row", 3), ("row", 2))
 >>> [kind_parts(steps), part_order(steps), lot_count(steps), ways_up(steps), part_lot(steps, (1, 1)), lot_state(steps, [0, 1, 2])]
 [[(0, 1), (1, 0), (2, 0)], [(1, 2)], 6, 3, [0, 1], (2, 1)]
+
+>>> from partsmet.alikes import is_renaming, least_table, led_state, renaming
+>>> forked = ("tops", 3, [(2, 0)])
+>>> [renaming(steps, forked), least_table(forked), is_renaming(steps, forked, (1, 2, 0)), renaming(steps, ("row", 4)), led_state(steps, forked, [1, 2, 0], (1, 1))]
+[[1, 2, 0], [[0, 0, 0], [0, 0, 0], [0, 1, 0]], True, None, [1, 2]]
+
+>>> from partsmet.webs import has_ring, is_joined, is_web, neighbours, ring, told_web
+>>> path, round_web = (3, [(1, 2), (0, 1)]), (4, [(0, 1), (0, 2), (1, 2)])
+>>> [is_web(path), is_web((2, [(1, 0)])), told_web(path), neighbours(path, 1), is_joined(path), is_joined(round_web), has_ring(path), ring(path), sorted(ring(round_web))]
+[True, False, (3, [(0, 1), (1, 2)]), [0, 2], True, False, False, None, [0, 1, 2]]
+
+>>> from partsmet.runs import crossings, grown, is_fresh, played, round_run, settled
+>>> kind, run = ("map", ("count",)), [("grow", 0, [("a", 2)]), ("send", 0, 1), ("hear", 0), ("grow", 1, [("b", 1)]), ("send", 1, 2), ("hear", 1)]
+>>> [played(kind, path, "known", run)[0], played(kind, path, "known", run)[2], played(kind, path, "since", run)[2]]
+[[[('a', 2)], [('a', 2), ('b', 1)], [('a', 2), ('b', 1)]], [(1, 0, [('b', 1)])], [(1, 0, [('a', 2), ('b', 1)]), (2, 1, [('a', 2), ('b', 1)])]]
+>>> [settled(kind, path, "known", run), settled(kind, path, "known", run + [("send", 1, 0), ("hear", 2)]), grown(kind, run), is_fresh(kind, run), crossings(kind, path, "known", run), len(crossings(("map", ("row", 2)), round_web, "back", round_run(round_web, 2))) > 0]
+[False, True, [('a', 2), ('b', 1)], True, [(0, 1, [('a', 2)], 1), (1, 2, [('a', 2)], 1), (1, 2, [('b', 1)], 1)], True]
+
+>>> from partsmet.texts import is_of_sort, written
+>>> both = ("pair", ("map", ("count",)), ("tops", 3, [(0, 2)]))
+>>> [written("kind", both), written("state", (both, ([("a", 5)], [1, 2]))), written("log", (("row", 3), [2, 0])), is_of_sort("state", (("row", 3), 3))]
+['kind pair map count tops 3 0<2\\n', 'state pair map count tops 3 0<2\\nis ({a:5},[1,2])\\n', 'log row 3\\nentry 2\\nentry 0\\n', False]
+>>> [written("view", (both, ("then", ("first",), ("at", "a")))), written("kind", ("above", ("table", [[0, 1], [1, 1]]), ("count",)))]
+['view pair map count tops 3 0<2\\nis then first at a\\n', 'kind above table 0,1;1,1 count\\n']
+
+>>> from partsmet.readers import read
+>>> [read("kind map row 2\\n"), read("state above count row 2\\nis high(1)\\n"), read("log count\\n"), read("view map count\\nis some a,b\\n")]
+[('kind', ('map', ('row', 2))), ('state', (('above', ('count',), ('row', 2)), ('high', 1))), ('log', (('count',), [])), ('view', (('map', ('count',)), ('some', ['a', 'b'])))]
+
+>>> from partsmet.claims import contrary, is_claim, is_paper_of, is_true
+>>> diamond = ("table", [[0, 1, 2, 3, 4], [1, 1, 4, 4, 4], [2, 4, 2, 4, 4], [3, 4, 4, 3, 4], [4, 4, 4, 4, 4]])
+>>> [is_true(("even", both)), is_true(("single", diamond)), contrary(("single", diamond)) == ("double", diamond), is_true(("least", ("count",), 5, 2, 5)), is_paper_of(("notleast", ("row", 9), 2, 2, 3), 0), is_claim(("least", ("count",), 5, 2, 4))]
+[True, False, True, True, True, False]
+>>> [is_true(("one", both, ("first",), ("first",))), is_paper_of(("parted", ("map", ("count",)), ("same",), ("some", ["a"])), [("b", 1)]), is_true(("alike", ("row", 2), ("table", [[0, 1], [1, 1]]))), is_paper_of(("through", ("map", ("count",)), ("joined",), 4), 0)]
+[True, True, True, True]
+
+>>> from partsmet.commands import is_command, is_deed
+>>> [is_command("kind k row 3"), is_command("kind k row 03"), is_command("put s map count {a:2}"), is_command("put s map count {a:0}"), is_deed("grade k"), is_command("claim c even"), is_deed("claim c least s t u"), is_command("view v then first at a")]
+[True, False, True, False, False, False, True, True]
+
+>>> from partsmet.desk import Desk
+>>> desk = Desk()
+>>> desk.do_all("kind m map count", "put s map count {a:2}", "put t map count {}", "claim k even m", "parts s", "grow t s", "same s t", "atmost s t")
+['-', '-', '-', 'k true', '{a:2}', '-', 'yes', 'yes']
+>>> desk.do_all("view v at a", "worth v s", "claim l least s t t", "drop s", "show t", "log g map count", "note g t", "show g", "undo", "states")
+['-', '2', 'l false', 'l gone', 'map count {a:2}', '-', '-', 'map count {a:2}', 'note g t', 'k true, l gone']
 '''
 
 

@@ -96,6 +96,62 @@ INTERFACE = {
         "part_lot(kind, state)",
         "lot_state(kind, positions)",
     ],
+    "alikes": [
+        "renaming(kind, other)",
+        "is_renaming(kind, other, value)",
+        "least_table(kind)",
+        "led_state(kind, other, value, state)",
+    ],
+    "webs": [
+        "is_web(value)",
+        "told_web(web)",
+        "neighbours(web, copy)",
+        "is_joined(web)",
+        "has_ring(web)",
+        "ring(web)",
+    ],
+    "runs": [
+        "played(kind, web, word, run)",
+        "settled(kind, web, word, run)",
+        "grown(kind, run)",
+        "is_fresh(kind, run)",
+        "crossings(kind, web, word, run)",
+        "round_run(web, many)",
+    ],
+    "texts": ["sorts()", "is_of_sort(sort, value)", "written(sort, value)"],
+    "readers": ["read(text)"],
+    "claims": [
+        "words()",
+        "is_claim(value)",
+        "is_true(claim)",
+        "contrary(claim)",
+        "paper_of(claim)",
+        "is_paper_of(claim, value)",
+    ],
+    "commands": ["is_name(value)", "is_command(value)", "is_deed(value)"],
+    "desk": ["tried(desk, action)"],
+}
+# The classes of partsmet/desk.py: their methods, and what stands over these.
+CLASSES = {
+    "Desk": {
+        "__init__(self)": "",
+        "names(self)": "property",
+        "labels(self)": "property",
+        "__len__(self)": "",
+        "__getitem__(self, name)": "",
+        "__contains__(self, value)": "",
+        "claim_of(self, label)": "",
+        "do(self, command)": "",
+        "__call__(self, command)": "",
+        "do_all(self, *commands)": "",
+        "attempt(self, *commands)": "",
+        "attach(self, label, paper)": "",
+        "fits(self, label)": "",
+        "lines(self)": "",
+        "copy(self)": "",
+        "again(cls, lines)": "classmethod",
+    },
+    "Trial": {"__init__(self, desk)": "", "__enter__(self)": "", "__exit__(self, kind, value, trace)": ""},
 }
 
 
@@ -113,6 +169,17 @@ class Interface(unittest.TestCase):
             defined = [node.name for node in tree.body if isinstance(node, ast.FunctionDef)]
             for line in lines:
                 self.assertEqual(defined.count(line.partition("(")[0]), 1, line)
+
+    def test_classes(self):
+        tree = ast.parse((FOLDER / "desk.py").read_text())
+        classes = {node.name: node for node in tree.body if isinstance(node, ast.ClassDef)}
+        self.assertEqual(set(classes), set(CLASSES))
+        for name, lines in CLASSES.items():
+            self.assertEqual(classes[name].bases, [])
+            defined = {f"{node.name}({ast.unparse(node.args)})": node.decorator_list
+                       for node in classes[name].body if isinstance(node, ast.FunctionDef)}
+            for line, above in lines.items():
+                self.assertEqual([each.id for each in defined[line]], [above] if above else [], (name, line))
 
 
 if __name__ == "__main__":

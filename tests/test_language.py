@@ -32,7 +32,11 @@ NODES = (
     ast.Gt, ast.GtE, ast.In, ast.NotIn, ast.Is, ast.IsNot, ast.Call, ast.keyword, ast.IfExp, ast.Lambda, ast.ListComp,
     ast.DictComp, ast.SetComp, ast.GeneratorExp, ast.comprehension, ast.List, ast.Tuple, ast.Dict, ast.Constant,
     ast.Name, ast.Attribute, ast.Subscript, ast.Slice, ast.Load, ast.Store, ast.Del, ast.JoinedStr, ast.FormattedValue,
-    ast.Starred, ast.LShift, ast.BitAnd,
+    ast.Starred, ast.LShift, ast.BitAnd, ast.With, ast.withitem,
+)
+OVER_METHODS = ("property", "classmethod")
+SPECIAL_METHODS = set(
+    "__init__ __len__ __contains__ __getitem__ __iter__ __call__ __enter__ __exit__".split()
 )
 EAGER = set("list tuple dict sorted sum min max any all".split())
 
@@ -45,8 +49,14 @@ def imported(tree):
     return [(node.module, alias.name) for node in tree.body if isinstance(node, ast.ImportFrom) for alias in node.names]
 
 
+def methods():
+    """The names of all methods that the package defines."""
+    classes = [node for _, tree in trees() for node in tree.body if isinstance(node, ast.ClassDef)]
+    return {inner.name for node in classes for inner in node.body if isinstance(inner, ast.FunctionDef)}
+
+
 def bound(tree):
-    """The names that a file gives to parameters, variables, functions and classes."""
+    """The names that a file gives to parameters, variables, caught errors, functions and classes."""
     for node in ast.walk(tree):
         if isinstance(node, (ast.FunctionDef, ast.ClassDef)):
             yield node.name
@@ -54,6 +64,8 @@ def bound(tree):
             yield node.arg
         elif isinstance(node, ast.Name) and isinstance(node.ctx, ast.Store):
             yield node.id
+        elif isinstance(node, ast.ExceptHandler) and node.name:
+            yield node.name
 
 
 class Files(unittest.TestCase):
@@ -145,7 +157,7 @@ class Names(unittest.TestCase):
         for path, tree in trees():
             for name in bound(tree):
                 # What is shown last, as by doctest, stands among the builtins as "_".
-                if name not in ("__init__", "_"):
+                if name != "_" and name not in SPECIAL_METHODS:
                     self.assertFalse(hasattr(builtins, name), (path, name))
                     self.assertRegex(name, r"^_?[A-Za-z][A-Za-z0-9_]*$")
                 self.assertNotIn(name, BARRED_NAMES | BARRED_WORDS, path)
@@ -154,12 +166,12 @@ class Names(unittest.TestCase):
 
     def test_builtins_and_methods_that_are_read(self):
         for path, tree in trees():
-            known = set(bound(tree)) | {name for _, name in imported(tree)} | BUILTINS
+            known = set(bound(tree)) | {name for _, name in imported(tree)} | BUILTINS | set(OVER_METHODS)
             for node in ast.walk(tree):
                 if isinstance(node, ast.Name):
                     self.assertIn(node.id, known, (path, node.lineno))
                 if isinstance(node, ast.Call) and isinstance(node.func, ast.Attribute):
-                    self.assertIn(node.func.attr, METHODS, (path, node.lineno))
+                    self.assertIn(node.func.attr, METHODS | methods(), (path, node.lineno))
 
 
 class Statements(unittest.TestCase):
@@ -167,7 +179,8 @@ class Statements(unittest.TestCase):
         for path, tree in trees():
             for node in ast.walk(tree):
                 self.assertIsInstance(node, NODES, (path, getattr(node, "lineno", 0)))
-                self.assertFalse(getattr(node, "decorator_list", []), path)
+                for decorator in getattr(node, "decorator_list", []):
+                    self.assertIn(getattr(decorator, "id", None), OVER_METHODS, path)
                 if isinstance(node, ast.Constant):
                     self.assertNotIsInstance(node.value, (float, complex, bytes), path)
                 if isinstance(node, ast.FunctionDef):
@@ -182,6 +195,45 @@ class Statements(unittest.TestCase):
                     self.assertIsInstance(node.value, ast.Constant, path)
                 if isinstance(node, ast.Assign):
                     ast.literal_eval(node.value)
+
+    def test_dicts_at_module_level_are_only_read(self):
+        """They stand in front of an index or a method, behind "in", or in the head of a loop."""
+        tables = {
+            node.targets[0].id
+            for _, tree in trees()
+            for node in tree.body
+            if isinstance(node, ast.Assign) and isinstance(node.value, (ast.Dict, ast.List))
+        }
+        self.assertTrue(tables)
+        for path, tree in trees():
+            right = []
+            for node in ast.walk(tree):
+                if isinstance(node, (ast.Subscript, ast.Attribute)):
+                    right.append(node.value)
+                if isinstance(node, ast.Compare):
+                    right += node.comparators
+                if isinstance(node, (ast.For, ast.comprehension)):
+                    right.append(node.iter)
+            for node in ast.walk(tree):
+                if isinstance(node, ast.Name) and isinstance(node.ctx, ast.Load) and node.id in tables:
+                    self.assertIn(node, right, (path, node.lineno))
+
+    def test_objects(self):
+        """Classes with an index have a refusing __iter__; an __exit__ only gives attributes other attributes."""
+        for path, tree in trees():
+            for node in [node for node in tree.body if isinstance(node, ast.ClassDef)]:
+                inner = {each.name: each for each in node.body if isinstance(each, ast.FunctionDef)}
+                self.assertEqual(len(inner), len([each for each in node.body if isinstance(each, ast.FunctionDef)]))
+                if "__getitem__" in inner:
+                    self.assertIsInstance(inner["__iter__"].body[-1], ast.Raise)
+                if "__len__" in inner:
+                    self.assertEqual(inner["__len__"].body[-1].value.func.id, "len", path)
+                for row in inner["__exit__"].body if "__exit__" in inner else []:
+                    self.assertIsInstance(row, ast.Assign, path)
+                    self.assertIsInstance(row.value, ast.Attribute, path)
+                assigned = {each.attr for each in ast.walk(node)
+                            if isinstance(each, ast.Attribute) and isinstance(each.ctx, ast.Store)}
+                self.assertFalse(assigned & set(inner), path)
 
     def test_iterated_at_once(self):
         """Generator expressions stand alone in a call that goes through them; sets in sorted or len."""
