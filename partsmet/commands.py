@@ -24,7 +24,7 @@ DEEDS = {
     "drop": ("any",),
     "forget": ("label",),
 }
-# The same behind the words of claims; in the deed the word "claim" and the label, a mark, stand ahead of these.
+# The same behind the words of claims; in the deed the word "claim" and the label stand ahead of these.
 CLAIMS = {
     "even": ("kind",),
     "uneven": ("kind",),
@@ -121,9 +121,9 @@ def is_deed_word(word):
 
 
 def uses_of(words):
-    """The tuples of the use and the name of all names in the command, in their sequence."""
+    """The tuples of the use and the name of the names in the command, but for those in a claim, in their sequence."""
     if words[0] == "claim":
-        return [("mark", words[1])] + uses_of_claim(words[2:])
+        return [("mark", words[1])]
     uses = DEEDS[words[0]] if words[0] in DEEDS else OTHERS[words[0]]
     return list(zip(uses, words[1:]))
 

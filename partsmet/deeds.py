@@ -18,7 +18,10 @@ WITH_KIND = ("state", "log")
 
 
 def found_things(things, claims, uses):
-    """The things of the names that are used as some; the errors of names and labels that are not free or not there."""
+    """The things of the names that are used as some; the errors of names and labels that are not free or not there.
+
+    A use is a sort, "any", "like" (the thing ahead), "new" (a free name), "label", or "mark" (a free label).
+    """
     found = []
     for use, name in uses:
         if use == "new":

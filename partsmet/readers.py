@@ -57,7 +57,7 @@ def line_value(found, line):
     if word == "asks":
         return read_state(kind_seen(what, found[1]), rest)
     view = read_view(rest)
-    return view if view is not None and is_view_of(what, view) else None
+    return view if is_view_of(what, view) else None
 
 
 def head_value(sort, rest):

@@ -142,6 +142,9 @@ class Renamings(unittest.TestCase):
             check_call(self, True, is_renaming, kind=PAIRED, other=FORKED, value=value)
             check_call(self, False, is_renaming, kind=FORKED, other=PAIRED, value=value)
             check_call(self, False, is_renaming, kind=PAIRED, other=("row", 3), value=value)
+        # Each position once, also where nothing stands in an order.
+        for value, answer in [([0, 0], False), ([1, 1], False), ([0, 1], True), ((1, 0), True), ([0, 1, 1], False)]:
+            check_call(self, answer, is_renaming, kind=("tops", 2, []), other=("table", SQUARE), value=value)
         for value in ([], ()):
             check_call(self, True, is_renaming, kind=("row", 1), other=("tops", 0, []), value=value)
             check_call(self, False, is_renaming, kind=("row", 1), other=FLAG, value=value)

@@ -17,6 +17,8 @@ from partsmet.errors import (
     UnknownName,
     UnlikeKinds,
 )
+from partsmet.joins import joined
+from partsmet.texts import written
 from tests.desks import failing, kept, made, redone, shot, state_by_hand, states_of
 from tests.samples import DIAMOND, ODD_VALUES, check_refused, list_marks, same
 from tests.test_commands import DEEDS, NO_NAMES, OTHERS, WRONG
@@ -157,10 +159,26 @@ class Tables(unittest.TestCase):
             ahead = kept(desk)[0]
             self.assertEqual(desk.do(lines[-1]), "-", lines)
             self.assertTrue(same(desk[name], value), (lines, desk[name]))
+            self.check_sort(desk, name, value)
             others = {each: thing for each, thing in ahead.items() if each != lines[-1].split(" ")[1]}
             self.assertEqual({each: thing for each, thing in kept(desk)[0].items() if each in others}, others)
             self.assertEqual(desk.lines(), SHELF + lines)
             self.assertEqual(len(desk), len(SHELF) + len(lines))
+
+    def check_sort(self, desk, name, value):
+        """What the deed keeps is of its sort: so it serves where such a thing is wanted, and shows as one."""
+        if isinstance(value[0], str):
+            self.assertEqual(desk.do(f"same {name} {name}"), "yes")
+            sort = "view" if value[0] in ("at", "then") else "kind"
+            self.assertEqual(failing(desk.do, f"grade {name}") is None, sort == "kind")
+            self.assertEqual(failing(desk.do, f"worth {name} s") in (None, (InvalidView, {"value": value})), sort == "view")
+            self.assertEqual(desk.do(f"show {name}"), written(sort, value).split(" ", 1)[1].strip("\n")
+                             if sort == "kind" else {"at": "at a", "then": "then first some b,a"}[value[0]])
+        elif name in ("g", "k") or value == (("tops", 2, []), []) or value == (COUNTS, []):
+            self.assertEqual(desk.do(f"sum {name}"), written("state", (value[0], joined(*value))).split("is ")[1].strip("\n"))
+        else:
+            self.assertEqual(desk.do(f"atmost {name} {name}"), "yes")
+            self.assertEqual(desk.do(f"show {name}"), written("state", value)[6:-1].replace("\nis ", " "))
 
     def test_answers(self):
         for lines, command, answer in ANSWERS:
